@@ -1,0 +1,1 @@
+"""Wares in a barn, first in, first out."""
